@@ -1,0 +1,1 @@
+"""Onceonly: services that must act once on each request."""

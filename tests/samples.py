@@ -1,0 +1,90 @@
+"""Systems for the tests: ordinary ones, invalid ones, and made ones."""
+
+import random
+
+ORDINARY = (4, ((0, 1, (0, 10), 1, 3), (0, 2, (0,), 2, 5), (1, 3, (0,), 1, 1), (2, 3, (0, 4), 1, 2)))
+# 0 -> 1 -> 2 -> 3, one way only.
+ONE_WAY = (4, ((0, 1, (2, 7), 1, 4), (1, 2, (0, 3, 9), 5, 5), (2, 3, (1,), 0, 6)))
+# All ways pass 1, then part to 2 and 3 and meet again at 4.
+MEETING = (5, ((0, 1, (0, 50), 0, 9), (1, 2, (0, 2), 1, 3), (1, 3, (4,), 1, 8), (2, 4, (0,), 1, 1), (3, 4, (0,), 2, 2)))
+# Several calls between the same two services; none is the best one for both ends.
+PARALLEL = (3, ((0, 1, (5, 8), 1, 2), (0, 1, (0, 1), 3, 4), (0, 1, (6,), 0, 9), (1, 2, (3,), 2, 2), (1, 2, (1, 7), 0, 0)))
+# Services 1 and 3 are not reached; 3 has a call from 1 and one to 4.
+UNREACHED = (5, ((0, 2, (0, 5), 1, 2), (1, 3, (0,), 9, 9), (3, 4, (99,), 99, 99), (2, 4, (1,), 0, 3), (1, 2, (0,), 0, 0)))
+ALONE = (1, ())
+# The greatest numbers that the document allows.
+WIDEST = (8, tuple((k, k + 1, (0, 33, 66, 99), 0, 99) for k in range(7)) + ((0, 7, (0,), 0, 0),) * 13)
+
+SYSTEMS = [ORDINARY, ONE_WAY, MEETING, PARALLEL, UNREACHED, ALONE, WIDEST]
+
+GOOD = (0, 1, (0, 5), 1, 2)
+HUGE = 10 ** 5000
+
+BAD_CALLS = [
+    None, True, 7, "call", "abcde", (), [0, 1, (0, 5), 1, 2], (0, 1, (0, 5), 1), (0, 1, (0, 5), 1, 2, 3),
+    # caller
+    (None, 1, (0,), 1, 2), (False, 1, (0,), 1, 2), ("0", 1, (0,), 1, 2), (-1, 1, (0,), 1, 2), (3, 4, (0,), 1, 2),
+    (2, 3, (0,), 1, 2), (HUGE, 1, (0,), 1, 2), ((0,), 1, (0,), 1, 2),
+    # target
+    (0, None, (0,), 1, 2), (0, True, (0,), 1, 2), (0, "1", (0,), 1, 2), (0, 0, (0,), 1, 2), (1, 0, (0,), 1, 2),
+    (0, -1, (0,), 1, 2), (0, 3, (0,), 1, 2), (1, 1, (0,), 1, 2), (0, HUGE, (0,), 1, 2), (0, [1], (0,), 1, 2),
+    # offsets
+    (0, 1, None, 1, 2), (0, 1, 0, 1, 2), (0, 1, True, 1, 2), (0, 1, "0", 1, 2), (0, 1, [0, 5], 1, 2), (0, 1, (), 1, 2),
+    (0, 1, (0, 1, 2, 3, 4), 1, 2), (0, 1, (5, 0), 1, 2), (0, 1, (5, 5), 1, 2), (0, 1, (0, 5, 3), 1, 2),
+    (0, 1, (0, 0, 5), 1, 2), (0, 1, (-1,), 1, 2), (0, 1, (-1, 5), 1, 2), (0, 1, (100,), 1, 2), (0, 1, (0, 100), 1, 2),
+    (0, 1, (True,), 1, 2), (0, 1, (0, True), 1, 2), (0, 1, (False, 5), 1, 2), (0, 1, (None,), 1, 2),
+    (0, 1, ("0",), 1, 2), (0, 1, (0, (5,)), 1, 2), (0, 1, (0, HUGE), 1, 2),
+    # least
+    (0, 1, (0,), None, 2), (0, 1, (0,), True, 2), (0, 1, (0,), False, 2), (0, 1, (0,), "1", 2), (0, 1, (0,), -1, 2),
+    (0, 1, (0,), 3, 2), (0, 1, (0,), 100, 100), (0, 1, (0,), (), 2), (0, 1, (0,), -HUGE, 2),
+    # most
+    (0, 1, (0,), 1, None), (0, 1, (0,), 1, True), (0, 1, (0,), 0, False), (0, 1, (0,), 1, "2"), (0, 1, (0,), 1, 0),
+    (0, 1, (0,), 0, -1), (0, 1, (0,), 1, 100), (0, 1, (0,), 1, []), (0, 1, (0,), 1, HUGE),
+]
+
+
+def invalid_systems():
+    """Return a list of tuples (system, part, index)."""
+    cases = [(system, "system", 0) for system in [
+        None, True, 3, HUGE, "", "ab", (), (3,), (3, (), ()), [3, ()], [], ((3, ()),)]]
+    cases += [((count, ()), "count", 0) for count in [0, 9, -1, -3, HUGE, True, False, None, "3", (3,), [3], ()]]
+    cases += [((0, calls), "count", 0) for calls in [None, [], ((),), ((1, 0),)]]
+    cases += [((3, calls), "calls", 0) for calls in [None, True, 5, "", "abc", [], [GOOD], [GOOD, None]]]
+    for call in BAD_CALLS:
+        cases.append(((3, (call,)), "calls", 0))
+        cases.append(((3, (GOOD, GOOD, call, GOOD)), "calls", 2))
+        # Only the first invalid call is told.
+        cases.append(((3, (GOOD, call, GOOD, None, (1, 0), call)), "calls", 1))
+        cases.append(((3, (GOOD,) * 19 + (call,)), "calls", 19))
+        cases.append(((3, (GOOD,) * 20 + (call,)), "calls", 20))
+    cases.append(((1, ((0, 1, (0,), 1, 1),)), "calls", 0))
+    cases.append(((2, (GOOD, (1, 2, (0,), 1, 1))), "calls", 1))
+    cases.append(((8, ((6, 7, (0,), 1, 1), (7, 8, (0,), 1, 1))), "calls", 1))
+    cases.append(((3, (GOOD,) * 21), "calls", 20))
+    cases.append(((3, (GOOD,) * 25), "calls", 20))
+    cases.append(((3, (GOOD,) * 7 + (None,) + (GOOD,) * 20), "calls", 7))
+    return cases
+
+
+INVALID_SYSTEMS = invalid_systems()
+
+
+def made_call(chance, count, most_offsets, most_tick):
+    """Return a call that chance makes."""
+    caller = chance.randrange(count - 1)
+    target = chance.randrange(caller + 1, count)
+    many = chance.randint(1, most_offsets)
+    offsets = tuple(sorted(chance.sample(range(most_tick + 1), many)))
+    least = chance.randint(0, most_tick)
+    return (caller, target, offsets, least, chance.randint(least, most_tick))
+
+
+def made_systems(seed, many, most_count, most_calls, most_offsets, most_tick):
+    """Return systems that are the same for each run with the same arguments."""
+    chance = random.Random(seed)
+    systems = []
+    for _ in range(many):
+        count = chance.randint(2, most_count)
+        calls = [made_call(chance, count, most_offsets, most_tick) for _ in range(chance.randint(1, most_calls))]
+        systems.append((count, tuple(calls)))
+    return systems

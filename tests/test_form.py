@@ -1,0 +1,115 @@
+"""Tests of the form of the package: its files, names, sizes, imports and builtins."""
+
+import ast
+import builtins
+import pathlib
+import re
+import unittest
+
+PACKAGE = pathlib.Path(__file__).resolve().parent.parent / "onceonly"
+FILES = sorted(PACKAGE.rglob("*.py"))
+
+INTERFACE = {
+    "systems": ["reachable_services"],
+    "differences": ["difference", "difference_schedule", "act_times"],
+}
+
+LIBRARY = {
+    "heapq": {"heappush", "heappop", "heapify", "heapreplace", "heappushpop"},
+    "math": {"gcd", "lcm", "isqrt", "comb", "perm", "factorial"},
+    "itertools": {
+        "product", "combinations", "permutations", "chain", "accumulate", "pairwise", "islice", "zip_longest"},
+    "collections": {"defaultdict"},
+    "__future__": {"annotations"},
+}
+
+BUILTINS = set("""
+    len range enumerate zip min max sum abs sorted reversed int str bool bytes list tuple dict set frozenset isinstance
+    ord repr any all divmod pow getattr hasattr setattr iter next map super property staticmethod classmethod object
+    Exception ValueError TypeError KeyError IndexError LookupError ZeroDivisionError ArithmeticError OverflowError
+    RuntimeError NotImplementedError AttributeError StopIteration NotImplemented
+""".split())
+
+TOP_LEVEL = (ast.Import, ast.ImportFrom, ast.FunctionDef, ast.ClassDef, ast.Assign, ast.Expr)
+
+
+def tree_of(path):
+    return ast.parse(path.read_text(encoding="ascii"))
+
+
+def defined_names(tree):
+    return [node.name for node in tree.body if isinstance(node, (ast.FunctionDef, ast.ClassDef))]
+
+
+def bound_names(tree):
+    names = defined_names(tree)
+    for node in tree.body:
+        if isinstance(node, ast.Assign):
+            names += [target.id for target in node.targets]
+    return names
+
+
+class FilesTest(unittest.TestCase):
+    def test_nothing_but_plain_files(self):
+        self.assertIn(PACKAGE / "__init__.py", FILES)
+        for path in PACKAGE.rglob("*"):
+            if "__pycache__" not in path.parts:
+                self.assertTrue(re.fullmatch(r"[a-z0-9_]+\.py", path.name), path)
+
+    def test_sizes_and_characters(self):
+        for path in FILES:
+            text = path.read_text(encoding="ascii")
+            lines = text.split("\n")
+            self.assertLessEqual(len(lines), 399, path)
+            self.assertLessEqual(max(len(line) for line in lines), 120, path)
+            self.assertTrue(all(letter == "\n" or " " <= letter <= "~" for letter in text), path)
+
+    def test_length_of_functions(self):
+        for path in FILES:
+            for node in ast.walk(tree_of(path)):
+                if isinstance(node, ast.FunctionDef):
+                    self.assertLessEqual(node.end_lineno - node.lineno + 1, 40, (path, node.name))
+
+    def test_top_level(self):
+        for path in FILES:
+            tree = tree_of(path)
+            for node in tree.body:
+                self.assertIsInstance(node, TOP_LEVEL, path)
+            names = bound_names(tree)
+            self.assertEqual(len(names), len(set(names)), path)
+
+
+class NamesTest(unittest.TestCase):
+    def test_imports_name_the_file_that_defines_the_name(self):
+        for path in FILES:
+            for node in ast.walk(tree_of(path)):
+                self.assertNotIsInstance(node, ast.Import, path)
+                if isinstance(node, ast.ImportFrom):
+                    names = {alias.name for alias in node.names}
+                    self.assertEqual((node.level, {alias.asname for alias in node.names}), (0, {None}), path)
+                    if node.module in LIBRARY:
+                        self.assertLessEqual(names, LIBRARY[node.module], path)
+                    else:
+                        folder, *parts = node.module.split(".")
+                        self.assertEqual(folder, "onceonly", path)
+                        source = PACKAGE.joinpath(*parts).with_suffix(".py")
+                        self.assertLessEqual(names, set(bound_names(tree_of(source))), path)
+
+    def test_builtins(self):
+        barred = set(vars(builtins)) - BUILTINS
+        for path in FILES:
+            for node in ast.walk(tree_of(path)):
+                if isinstance(node, ast.Name):
+                    self.assertNotIn(node.id, barred, path)
+                    if isinstance(node.ctx, ast.Store):
+                        self.assertNotIn(node.id, BUILTINS, path)
+
+    def test_interface_is_defined_in_its_files(self):
+        for module, names in INTERFACE.items():
+            found = defined_names(tree_of(PACKAGE / (module + ".py")))
+            for name in names:
+                self.assertIn(name, found)
+
+
+if __name__ == "__main__":
+    unittest.main()
