@@ -1,5 +1,6 @@
-"""The rules of points 3 and 4 of the document, written without the program."""
+"""The rules of points 3, 4 and 12 of the document, written without the program."""
 
+import heapq
 import itertools
 
 
@@ -7,8 +8,8 @@ def is_plain(value, low, high):
     return isinstance(value, int) and not isinstance(value, bool) and low <= value <= high
 
 
-def is_valid_schedule(system, schedule):
-    """Tell whether this is a schedule of a single request in which each service acts at most once."""
+def is_valid_schedule(system, schedule, requests=1):
+    """Tell whether this is a schedule that needs no second act of a service on one of the requests."""
     calls = system[1]
     if not isinstance(schedule, list):
         return False
@@ -16,7 +17,7 @@ def is_valid_schedule(system, schedule):
         if not isinstance(entry, tuple) or len(entry) != 5:
             return False
         request, act, index, attempt, delay = entry
-        if not (is_plain(request, 0, 0) and is_plain(act, 0, 0) and is_plain(index, 0, len(calls) - 1)):
+        if not (is_plain(request, 0, requests - 1) and is_plain(act, 0, 0) and is_plain(index, 0, len(calls) - 1)):
             return False
         offsets, least, most = calls[index][2:]
         if not (is_plain(attempt, 0, len(offsets) - 1) and is_plain(delay, least, most)):
@@ -74,3 +75,45 @@ def tried_act_times(system):
                 low, high = times.get(service, (acts[0], acts[0]))
                 times[service] = (min(low, acts[0]), max(high, acts[0]))
     return times
+
+
+def play_requests(system, windows, times, schedule):
+    """Return a list of all arrivals of requests with the same key: tuples (time, service, request, remembered).
+
+    The last item is the number of the request because of which the service remembers the key; it is
+    None if the service acts.
+    """
+    count, calls = system
+    # An arrival is sorted by its time, its service, and then by its request or its schedule entry.
+    coming = [(time, 0, (-1, request), request) for request, time in enumerate(times)]
+    heapq.heapify(coming)
+    memory = [None] * count
+    acted = {}
+    events = []
+    while coming:
+        time, service, _, request = heapq.heappop(coming)
+        if memory[service] is not None and time <= memory[service][0] + windows[service]:
+            events.append((time, service, request, memory[service][1]))
+            continue
+        events.append((time, service, request, None))
+        memory[service] = (time, request)
+        number = acted.get((service, request), 0)
+        acted[service, request] = number + 1
+        for entry in schedule:
+            caller, target, offsets = calls[entry[2]][:3]
+            if caller == service and entry[:2] == (request, number):
+                heapq.heappush(coming, (time + offsets[entry[3]] + entry[4], target, entry[:4], request))
+    return events
+
+
+def messages(system):
+    """Return the list of all messages (call, attempt) of single acts."""
+    return [(index, attempt) for index, call in enumerate(system[1]) for attempt in range(len(call[2]))]
+
+
+def number_of_schedules(system):
+    """Return the length of the list of all schedules."""
+    number = 1
+    for index, _ in messages(system):
+        number *= system[1][index][4] - system[1][index][3] + 2
+    return number

@@ -88,3 +88,79 @@ def made_systems(seed, many, most_count, most_calls, most_offsets, most_tick):
         calls = [made_call(chance, count, most_offsets, most_tick) for _ in range(chance.randint(1, most_calls))]
         systems.append((count, tuple(calls)))
     return systems
+
+
+BAD_WINDOWS = [-1, 10000, True, False, None, "5", "", (), (5,), [5], HUGE, -HUGE]
+
+
+def invalid_windows(count):
+    """Return a list of tuples (windows, index) for systems with so many services."""
+    good = (0, 9999, 5, 7, 1, 2, 3, 4)[:count]
+    cases = [(windows, 0) for windows in [None, True, 0, 5, HUGE, "", "5" * count, [], list(good), [None] * count]]
+    cases += [(good[:index], index) for index in range(count)]
+    cases += [(good + (5,) * more, count) for more in (1, 2, 9)]
+    for bad in BAD_WINDOWS:
+        cases.append((good + (bad,), count))
+        cases.append((good + (5, bad), count))
+        for index in range(count):
+            cases.append((good[:index] + (bad,) + good[index + 1:], index))
+            # The first of several faults is told.
+            cases.append((good[:index] + (bad,) * (count - index), index))
+            cases.append((good[:index] + (bad,), index))
+            cases.append((good[:index] + (bad,) + good[index + 1:] + (5,), index))
+    return cases
+
+
+BAD_ENTRIES = [-10000, 10000, True, False, None, "5", "", (), [5], [], HUGE, -HUGE]
+
+
+def invalid_tables(reached, table):
+    """Return a list of tuples (table, row, column), made of a valid table for some reached services."""
+    count = len(table)
+    cases = [(bad, 0, 0) for bad in [None, True, 0, HUGE, "", "ab", (), tuple(table), ()]]
+    cases += [(table[:row], row, 0) for row in range(count)]
+    cases += [(table + [more], count, 0) for more in [None, 0, [], list(table[0])]]
+    cases.append((table + table, count, 0))
+    for row in range(count):
+        for bad in [None, 0, True, "", "abcd", (), tuple(table[row]), [], table[row][:-1], table[row] + [0],
+                    table[row] + [None], [[]] * (count + 1)]:
+            cases.append((table[:row] + [bad] + table[row + 1:], row, 0))
+            # A superfluous row and later rows come after all others.
+            cases.append((table[:row] + [bad] + table[row + 1:] + [[]], row, 0))
+            cases.append((table[:row] + [bad] * (count - row), row, 0))
+            cases.append((table[:row] + [bad], row, 0))
+        for column in range(count):
+            is_reached = row in reached and column in reached
+            for bad in BAD_ENTRIES if is_reached else [0, -1, 10000, True, False, "", (), [None], [], HUGE]:
+                wrong = table[row][:column] + [bad] + table[row][column + 1:]
+                cases.append((table[:row] + [wrong] + table[row + 1:], row, column))
+                cases.append((table[:row] + [wrong], row, column))
+                cases.append((table[:row] + [wrong] + table[row + 1:] + [wrong], row, column))
+                cases.append((table[:row] + [wrong] * (count - row), row, column))
+                worse = table[row][:column] + [bad] + ["x"] * (count - column - 1)
+                cases.append((table[:row] + [worse] + table[row + 1:], row, column))
+                # A wrong length is told before the entries of the row.
+                cases.append((table[:row] + [wrong + [0]] + table[row + 1:], row, 0))
+                cases.append((table[:row] + [wrong[:-1]] + table[row + 1:], row, 0))
+    return cases
+
+
+BAD_TIMES = [-1, 100000, True, False, "5", "", (), (5,), [5], [], HUGE, -HUGE]
+
+
+def invalid_logs(count):
+    """Return a list of tuples (log, index) for systems with so many services."""
+    good = [0, 99999, None, 0, 5, 6, 7, None][:count]
+    cases = [(log, 0) for log in [None, True, 0, HUGE, "", "0" * count, (), tuple(good), [], [None] * count]]
+    cases += [([bad] + good[1:], 0) for bad in BAD_TIMES + [None, 1, 5, 99999]]
+    cases += [([bad] * count, 0) for bad in BAD_TIMES + [None, 1]]
+    cases += [(good[:index], index) for index in range(count)]
+    cases += [(good + [more], count) for more in BAD_TIMES + [None, 0, 5]]
+    cases += [(good + [5, more], count) for more in BAD_TIMES + [None, 0, 5]]
+    for bad in BAD_TIMES:
+        for index in range(1, count):
+            cases.append((good[:index] + [bad] + good[index + 1:], index))
+            cases.append((good[:index] + [bad] * (count - index), index))
+            cases.append((good[:index] + [bad], index))
+            cases.append((good[:index] + [bad] + good[index + 1:] + [bad], index))
+    return cases

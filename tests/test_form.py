@@ -9,9 +9,18 @@ import unittest
 PACKAGE = pathlib.Path(__file__).resolve().parent.parent / "onceonly"
 FILES = sorted(PACKAGE.rglob("*.py"))
 
+# The functions of each file, and the names of their arguments.
 INTERFACE = {
-    "systems": ["reachable_services"],
-    "differences": ["difference", "difference_schedule", "act_times"],
+    "systems": {"reachable_services": "system"},
+    "differences": {
+        "difference": "system service other", "difference_schedule": "system service other", "act_times": "system"},
+    "windows": {
+        "least_windows": "system", "deciding_messages": "system", "double_act": "system windows",
+        "memory_needs": "system windows gap"},
+    "certificates": {"difference_table": "system", "check_certificate": "system windows table"},
+    "reuse": {"least_reuse_time": "system windows", "reuse_conflict": "system windows"},
+    "logs": {
+        "explanations": "system log", "lost_messages": "system windows log", "explain_log": "system windows log"},
 }
 
 LIBRARY = {
@@ -104,11 +113,35 @@ class NamesTest(unittest.TestCase):
                     if isinstance(node.ctx, ast.Store):
                         self.assertNotIn(node.id, BUILTINS, path)
 
+    def test_local_names(self):
+        for path in FILES:
+            tree = tree_of(path)
+            taken = {alias.name for node in ast.walk(tree) if isinstance(node, ast.ImportFrom) for alias in node.names}
+            taken |= {node.name for node in tree.body if isinstance(node, ast.ClassDef)}
+            for node in ast.walk(tree):
+                if isinstance(node, ast.Name) and isinstance(node.ctx, ast.Store):
+                    self.assertNotIn(node.id, taken, path)
+                if isinstance(node, ast.arg):
+                    self.assertNotIn(node.arg, taken | set(vars(builtins)), path)
+
+    def test_no_two_files_import_from_each_other(self):
+        imported = {}
+        for path in FILES:
+            modules = [node.module for node in ast.walk(tree_of(path)) if isinstance(node, ast.ImportFrom)]
+            imported[path.stem] = {module.split(".")[-1] for module in modules}
+        while imported:
+            free = [name for name in imported if not imported[name] & set(imported)]
+            self.assertTrue(free, imported)
+            imported = {name: imported[name] for name in imported if name not in free}
+
     def test_interface_is_defined_in_its_files(self):
-        for module, names in INTERFACE.items():
-            found = defined_names(tree_of(PACKAGE / (module + ".py")))
-            for name in names:
-                self.assertIn(name, found)
+        for module, functions in INTERFACE.items():
+            found = {}
+            for node in tree_of(PACKAGE / (module + ".py")).body:
+                if isinstance(node, ast.FunctionDef):
+                    found[node.name] = " ".join(argument.arg for argument in node.args.args)
+            for name, arguments in functions.items():
+                self.assertEqual(found.get(name), arguments, name)
 
 
 if __name__ == "__main__":
