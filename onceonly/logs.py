@@ -1,10 +1,8 @@
 """Logs: what can have caused the acts on a single request, and what must have been lost."""
 
 from onceonly.errors import ImpossibleLog, InvalidLog
-from onceonly.systems import check_system, is_number_within
+from onceonly.systems import LAST_TIME, check_system, is_number_within
 from onceonly.windows import check_windows
-
-LAST_TIME = 99999
 
 
 def is_log_item(service, value):

@@ -6,6 +6,7 @@ MOST_SERVICES = 8
 MOST_CALLS = 20
 MOST_OFFSETS = 4
 LAST_TICK = 99
+LAST_TIME = 99999
 
 
 def is_number(value):

@@ -164,3 +164,87 @@ def invalid_logs(count):
             cases.append((good[:index] + [bad], index))
             cases.append((good[:index] + [bad] + good[index + 1:] + [bad], index))
     return cases
+
+
+def invalid_times():
+    """Return a list of tuples (times, index) for the times of requests."""
+    good = [0, 1, 5, 6, 7, 30, 99997, 99998, 99999]
+    cases = [(times, 0) for times in [None, True, 0, 5, HUGE, "", "05", (), tuple(good), (0,), []]]
+    cases += [(good + [more], 9) for more in BAD_TIMES + [None, 99999, 100000, 5]]
+    cases += [([0, 1, 2, 3, 4, 5, 6, 7, 8, 9], 9), ([0, 1, 2, 3, 4, 5, 6, 7, 8, 9, None], 9)]
+    for bad in BAD_TIMES + [None]:
+        for index in range(9):
+            cases.append((good[:index] + [bad] + good[index + 1:], index))
+            # The first of several faults is told.
+            cases.append((good[:index] + [bad] * (9 - index), index))
+            cases.append((good[:index] + [bad], index))
+            cases.append((good[:index] + [bad] + good[index + 1:] + [bad], index))
+    for index in range(1, 9):
+        for low in [0, good[index - 1] - 1, good[index - 1]]:
+            cases.append((good[:index] + [low] + good[index + 1:], index))
+    return cases
+
+
+# Messages of ORDINARY, for two requests, that are wrong in each way.
+BAD_MESSAGES = [
+    None, True, 7, HUGE, "", "0000", (), [0, 0, 0, 0], (0, 0, 0), (0, 0, 0, 0, 1), (0,), ((0, 0, 0, 0),),
+    # request
+    (-1, 0, 0, 0), (2, 0, 0, 0), (None, 0, 0, 0), (True, 0, 0, 0), (False, 0, 0, 0), ("0", 0, 0, 0), (HUGE, 0, 0, 0),
+    # act
+    (0, -1, 0, 0), (0, 100, 0, 0), (0, None, 0, 0), (0, True, 0, 0), (0, "0", 0, 0), (0, HUGE, 0, 0), (0, [0], 0, 0),
+    # call
+    (0, 0, -1, 0), (0, 0, 4, 0), (0, 0, None, 0), (0, 0, True, 0), (0, 0, "0", 0), (0, 0, HUGE, 0), (0, 0, (0,), 0),
+    # attempt
+    (0, 0, 0, -1), (0, 0, 0, 2), (0, 0, 1, 1), (0, 0, 2, 1), (0, 0, 0, None), (0, 0, 0, True), (0, 0, 0, False),
+    (0, 0, 0, "0"), (0, 0, 0, HUGE), (0, 0, 0, -HUGE),
+]
+
+# Messages of ORDINARY and delays that these cannot have.
+BAD_DELAYS = [((0, 0, 0, 0), delay) for delay in [0, 4, -1, None, True, False, "1", "", (1,), [1], HUGE, -HUGE]]
+BAD_DELAYS += [((0, 0, 1, 0), 1), ((0, 0, 1, 0), 6), ((1, 99, 2, 0), 0), ((1, 0, 2, 0), 2), ((0, 5, 3, 1), 0)]
+BAD_DELAYS += [((0, 0, 3, 1), 3)]
+
+
+def invalid_entries():
+    """Return a list of what is not an entry of a schedule of ORDINARY for two requests."""
+    entries = [message + (1,) if isinstance(message, tuple) else message for message in BAD_MESSAGES]
+    entries += [message + (delay,) for message, delay in BAD_DELAYS]
+    return entries + [(0, 0, 0, 0), [0, 0, 0, 0, 1], "00001"]
+
+
+def invalid_schedules():
+    """Return a list of tuples (schedule, index) for ORDINARY and two requests."""
+    good = [(0, 0, 0, 0, 1), (0, 0, 0, 1, 3), (0, 0, 1, 0, 5), (0, 99, 3, 1, 2), (1, 0, 0, 0, 2), (1, 7, 2, 0, 1)]
+    cases = [(schedule, 0) for schedule in [None, True, 0, HUGE, "", "abc", (), tuple(good), (good,)]]
+    for bad in invalid_entries():
+        for index in range(len(good) + 1):
+            cases.append((good[:index] + [bad] + good[index:], index))
+            cases.append((good[:index] + [bad], index))
+            cases.append((good[:index] + [bad, None, bad], index))
+    for index in range(1, len(good)):
+        # The same first four numbers, whatever the delay is, and smaller ones.
+        cases.append((good[:index] + good[index - 1:], index))
+        cases.append((good[:index] + [(0, 0, 0, 0, 3)] + good[index:], index))
+        cases.append((good[:index] + [(0, 0, 0, 0, 3), None], index))
+    cases.append(([good[1], good[0]], 1))
+    cases.append(([good[2], good[1], good[0]], 1))
+    cases.append(([(0, 1, 0, 0, 1), (0, 0, 3, 0, 1)], 1))
+    cases.append(([(1, 0, 0, 0, 1), (0, 1, 0, 0, 1)], 1))
+    return cases
+
+
+def made_times(chance, most_requests, most_time):
+    """Return the times of some requests that chance makes."""
+    return sorted(chance.sample(range(most_time + 1), chance.randint(1, most_requests)))
+
+
+def made_schedule(chance, system, requests, most_act, share):
+    """Return a schedule that chance makes: it lists a share of all messages of the acts up to `most_act`."""
+    schedule = []
+    for request in range(requests):
+        for act in range(most_act + 1):
+            for index, call in enumerate(system[1]):
+                for attempt in range(len(call[2])):
+                    if chance.random() < share:
+                        schedule.append((request, act, index, attempt, chance.randint(call[3], call[4])))
+    return schedule

@@ -3,12 +3,16 @@
 import copy
 import unittest
 
+import modelling
 import samples
 from onceonly.certificates import check_certificate, difference_table
 from onceonly.differences import act_times, difference, difference_schedule
 from onceonly.errors import InvalidSystem, InvalidWindows
 from onceonly.logs import explain_log, explanations, lost_messages
+from onceonly.planning import drop_effects, fit_windows
 from onceonly.reuse import least_reuse_time, reuse_conflict
+from onceonly.runner import Runner
+from onceonly.simulator import count_acts, simulate
 from onceonly.systems import reachable_services
 from onceonly.windows import deciding_messages, double_act, least_windows, memory_needs
 
@@ -17,6 +21,19 @@ WINDOWS = (0, 12, 0, 11)
 SHORT = (0, 3, 0, 2)
 TABLE = [[0, -1, -2, -2], [13, 0, 11, 10], [5, 4, 0, 3], [14, 10, 12, 0]]
 SMALL_TABLE = [[0, -1, -2, -2], [13, 0, 11, 10], [5, 4, 0, 3], [14, 10, 11, 0]]
+
+SCHEDULE = [(0, 0, 0, 0, 1), (0, 0, 0, 1, 3), (0, 0, 2, 0, 1), (1, 0, 1, 0, 4), (1, 0, 3, 1, 2), (1, 1, 0, 0, 2)]
+
+
+def told_by_a_runner(system, windows):
+    """Return the results of operations of a runner, and what it tells after some of them."""
+    runner = Runner(system, windows)
+    results = runner.apply_all([("request", 2), ("deliver", (0, 0, 0, 1), 2), ("request", 6), ("run", 8), ("step",)])
+    runner.deliver((1, 0, 3, 1), 1)
+    runner.save("kept")
+    runner.undo()
+    return [results, runner.history(), runner.checkpoints()] + list(modelling.tell(runner))
+
 
 CALLS = [
     (reachable_services, (SYSTEM,)), (difference, (SYSTEM, 3, 1)), (difference_schedule, (SYSTEM, 3, 1)),
@@ -27,6 +44,10 @@ CALLS = [
     (check_certificate, (SYSTEM, WINDOWS, SMALL_TABLE)), (least_reuse_time, (SYSTEM, WINDOWS)),
     (reuse_conflict, (SYSTEM, WINDOWS)), (explanations, (SYSTEM, [0, 11, None, 12])),
     (lost_messages, (SYSTEM, WINDOWS, [0, 11, None, 12])), (explain_log, (SYSTEM, WINDOWS, [0, 2, None, 3])),
+    (drop_effects, (SYSTEM,)), (fit_windows, (SYSTEM, WINDOWS)), (fit_windows, (SYSTEM, SHORT)),
+    (fit_windows, (SYSTEM, (0, 0, 0, 0))), (simulate, (SYSTEM, WINDOWS, [0, 5], SCHEDULE)),
+    (count_acts, (SYSTEM, SHORT, [0, 5], SCHEDULE)), (told_by_a_runner, (SYSTEM, WINDOWS)),
+    (told_by_a_runner, (SYSTEM, SHORT)),
 ]
 
 # What stands behind the system in a call, and what behind the windows.
@@ -103,6 +124,16 @@ class RepeatedCallsTest(unittest.TestCase):
                 with self.assertRaises(ValueError):
                     ask(SYSTEM, WINDOWS, given)
                 self.assertEqual(given, log)
+        for times, _ in samples.invalid_times():
+            given = copy.deepcopy(times)
+            with self.assertRaises(ValueError):
+                simulate(SYSTEM, WINDOWS, given, [])
+            self.assertEqual(given, times)
+        for schedule, _ in samples.invalid_schedules():
+            given = copy.deepcopy(schedule)
+            with self.assertRaises(ValueError):
+                simulate(SYSTEM, WINDOWS, [0, 5], given)
+            self.assertEqual(given, schedule)
 
 
 class InvalidSystemsTest(unittest.TestCase):
@@ -134,7 +165,7 @@ class InvalidWindowsTest(unittest.TestCase):
     def test_functions(self):
         self.assertEqual({ask.__name__ for ask, _ in WITH_WINDOWS}, {
             "double_act", "memory_needs", "check_certificate", "least_reuse_time", "reuse_conflict", "lost_messages",
-            "explain_log"})
+            "explain_log", "fit_windows", "simulate", "count_acts", "told_by_a_runner"})
 
     def test_index(self):
         for ask, rest in WITH_WINDOWS:

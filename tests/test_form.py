@@ -21,6 +21,21 @@ INTERFACE = {
     "reuse": {"least_reuse_time": "system windows", "reuse_conflict": "system windows"},
     "logs": {
         "explanations": "system log", "lost_messages": "system windows log", "explain_log": "system windows log"},
+    "planning": {"drop_effects": "system", "fit_windows": "system limits"},
+    "simulator": {"simulate": "system windows times schedule", "count_acts": "system windows times schedule"},
+}
+
+TIMELINE = {
+    "undo": "self", "redo": "self", "is_busy": "self", "history": "self", "save": "self name", "restore": "self name",
+    "checkpoints": "self", "apply_all": "self operations",
+}
+
+# The methods of each class, and the names of their arguments.
+CLASSES = {
+    ("runner", "Runner"): dict(TIMELINE, **{
+        "__init__": "self system windows", "add_request": "self time", "deliver": "self message delay",
+        "step": "self", "lose": "self message", "run_to": "self time", "current_time": "self", "all_events": "self",
+        "act_counts": "self", "remembering": "self", "coming": "self", "schedule": "self"}),
 }
 
 LIBRARY = {
@@ -48,6 +63,10 @@ def tree_of(path):
 
 def defined_names(tree):
     return [node.name for node in tree.body if isinstance(node, (ast.FunctionDef, ast.ClassDef))]
+
+
+def argument_names(function):
+    return " ".join(argument.arg for argument in function.args.args)
 
 
 def bound_names(tree):
@@ -139,9 +158,17 @@ class NamesTest(unittest.TestCase):
             found = {}
             for node in tree_of(PACKAGE / (module + ".py")).body:
                 if isinstance(node, ast.FunctionDef):
-                    found[node.name] = " ".join(argument.arg for argument in node.args.args)
+                    found[node.name] = argument_names(node)
             for name, arguments in functions.items():
                 self.assertEqual(found.get(name), arguments, name)
+
+    def test_methods_are_defined_in_their_classes(self):
+        for (module, name), methods in CLASSES.items():
+            [found] = [node for node in tree_of(PACKAGE / (module + ".py")).body
+                       if isinstance(node, ast.ClassDef) and node.name == name]
+            defined = {node.name: argument_names(node) for node in found.body if isinstance(node, ast.FunctionDef)}
+            for method, arguments in methods.items():
+                self.assertEqual(defined.get(method), arguments, method)
 
 
 if __name__ == "__main__":
