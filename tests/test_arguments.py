@@ -6,12 +6,16 @@ import unittest
 import modelling
 import samples
 from onceonly.certificates import check_certificate, difference_table
+from onceonly.codec import decode_schedule, decode_system, encode_schedule, encode_system, pack_bytes, unpack_bytes
 from onceonly.differences import act_times, difference, difference_schedule
+from onceonly.editor import Editor
 from onceonly.errors import InvalidSystem, InvalidWindows
 from onceonly.logs import explain_log, explanations, lost_messages
+from onceonly.notation import format_schedule, format_system, parse_schedule, parse_system
 from onceonly.planning import drop_effects, fit_windows
 from onceonly.reuse import least_reuse_time, reuse_conflict
 from onceonly.runner import Runner
+from onceonly.scripts import run_script, trace_script
 from onceonly.simulator import count_acts, simulate
 from onceonly.systems import reachable_services
 from onceonly.windows import deciding_messages, double_act, least_windows, memory_needs
@@ -35,6 +39,19 @@ def told_by_a_runner(system, windows):
     return [results, runner.history(), runner.checkpoints()] + list(modelling.tell(runner))
 
 
+def told_by_an_editor(system):
+    """Return the results of operations of an editor, and what it tells after some of them."""
+    editor = Editor(system)
+    results = editor.apply_all([("add_service",), ("add_call", (1, 4, (0, 3), 1, 2)), ("remove_call", 3),
+                                ("set_offsets", 0, (1, 2)), ("set_delays", 1, 0, 9), ("remove_call", 3)])
+    editor.save("kept")
+    editor.remove_service(4)
+    editor.undo()
+    return [results, editor.history(), editor.checkpoints(), editor.current_system(), editor.window_history()]
+
+
+SOURCE = "request 2\ndeliver 0 0 0 1 2\nset n 1\nrequest 6\nrun 8\nprint acts.0\nadd n now\nstep\nprint key.1"
+
 CALLS = [
     (reachable_services, (SYSTEM,)), (difference, (SYSTEM, 3, 1)), (difference_schedule, (SYSTEM, 3, 1)),
     (act_times, (SYSTEM,)), (least_windows, (SYSTEM,)), (deciding_messages, (SYSTEM,)),
@@ -47,7 +64,16 @@ CALLS = [
     (drop_effects, (SYSTEM,)), (fit_windows, (SYSTEM, WINDOWS)), (fit_windows, (SYSTEM, SHORT)),
     (fit_windows, (SYSTEM, (0, 0, 0, 0))), (simulate, (SYSTEM, WINDOWS, [0, 5], SCHEDULE)),
     (count_acts, (SYSTEM, SHORT, [0, 5], SCHEDULE)), (told_by_a_runner, (SYSTEM, WINDOWS)),
-    (told_by_a_runner, (SYSTEM, SHORT)),
+    (told_by_a_runner, (SYSTEM, SHORT)), (told_by_an_editor, (SYSTEM,)), (run_script, (SYSTEM, WINDOWS, SOURCE)),
+    (trace_script, (SYSTEM, SHORT, SOURCE)), (format_system, (SYSTEM, WINDOWS)), (encode_system, (SYSTEM, WINDOWS)),
+    (encode_schedule, (SYSTEM, 2, SCHEDULE)), (decode_schedule, (SYSTEM, encode_schedule(SYSTEM, 2, SCHEDULE))),
+]
+
+# Calls of functions that do not take a system.
+OTHER_CALLS = [
+    (parse_system, (format_system(SYSTEM, WINDOWS),)), (format_schedule, (SCHEDULE,)),
+    (parse_schedule, (format_schedule(SCHEDULE),)), (decode_system, (encode_system(SYSTEM, WINDOWS),)),
+    (pack_bytes, ([83, 0, 255],)), (unpack_bytes, (b"S\x00",)),
 ]
 
 # What stands behind the system in a call, and what behind the windows.
@@ -76,7 +102,7 @@ class RepeatedCallsTest(unittest.TestCase):
                          [None, 1, None, "window", "entry"])
 
     def test_results_may_be_modified(self):
-        for ask, arguments in CALLS:
+        for ask, arguments in CALLS + OTHER_CALLS:
             with self.subTest(ask=ask.__name__):
                 first = ask(*arguments)
                 kept = copy.deepcopy(first)
@@ -86,7 +112,7 @@ class RepeatedCallsTest(unittest.TestCase):
                 self.assertEqual(ask(*copy.deepcopy(arguments)), kept)
 
     def test_arguments_stay_as_they_were(self):
-        for ask, arguments in CALLS:
+        for ask, arguments in CALLS + OTHER_CALLS:
             with self.subTest(ask=ask.__name__):
                 given = copy.deepcopy(arguments)
                 result = ask(*given)
@@ -95,7 +121,7 @@ class RepeatedCallsTest(unittest.TestCase):
                 self.assertEqual(given, arguments)
 
     def test_arguments_are_not_kept(self):
-        for ask, arguments in CALLS:
+        for ask, arguments in CALLS + OTHER_CALLS:
             with self.subTest(ask=ask.__name__):
                 given = copy.deepcopy(arguments)
                 result = ask(*given)
@@ -133,6 +159,8 @@ class RepeatedCallsTest(unittest.TestCase):
             given = copy.deepcopy(schedule)
             with self.assertRaises(ValueError):
                 simulate(SYSTEM, WINDOWS, [0, 5], given)
+            with self.assertRaises(ValueError):
+                encode_schedule(SYSTEM, 2, given)
             self.assertEqual(given, schedule)
 
 
@@ -165,7 +193,8 @@ class InvalidWindowsTest(unittest.TestCase):
     def test_functions(self):
         self.assertEqual({ask.__name__ for ask, _ in WITH_WINDOWS}, {
             "double_act", "memory_needs", "check_certificate", "least_reuse_time", "reuse_conflict", "lost_messages",
-            "explain_log", "fit_windows", "simulate", "count_acts", "told_by_a_runner"})
+            "explain_log", "fit_windows", "simulate", "count_acts", "told_by_a_runner", "run_script", "trace_script",
+            "format_system", "encode_system"})
 
     def test_index(self):
         for ask, rest in WITH_WINDOWS:

@@ -23,6 +23,13 @@ INTERFACE = {
         "explanations": "system log", "lost_messages": "system windows log", "explain_log": "system windows log"},
     "planning": {"drop_effects": "system", "fit_windows": "system limits"},
     "simulator": {"simulate": "system windows times schedule", "count_acts": "system windows times schedule"},
+    "scripts": {"run_script": "system windows source", "trace_script": "system windows source"},
+    "notation": {
+        "format_system": "system windows", "parse_system": "text", "format_schedule": "schedule",
+        "parse_schedule": "text"},
+    "codec": {
+        "pack_bytes": "values", "unpack_bytes": "data", "encode_system": "system windows", "decode_system": "data",
+        "encode_schedule": "system requests schedule", "decode_schedule": "system data"},
 }
 
 TIMELINE = {
@@ -36,6 +43,10 @@ CLASSES = {
         "__init__": "self system windows", "add_request": "self time", "deliver": "self message delay",
         "step": "self", "lose": "self message", "run_to": "self time", "current_time": "self", "all_events": "self",
         "act_counts": "self", "remembering": "self", "coming": "self", "schedule": "self"}),
+    ("editor", "Editor"): dict(TIMELINE, **{
+        "__init__": "self system", "add_call": "self call", "remove_call": "self index",
+        "set_offsets": "self index offsets", "set_delays": "self index least most", "add_service": "self",
+        "remove_service": "self service", "current_system": "self", "window_history": "self"}),
 }
 
 LIBRARY = {

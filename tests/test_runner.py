@@ -405,6 +405,31 @@ class WholeRunsTest(unittest.TestCase):
             self.assertEqual(runner.all_events(), simulate(system, windows, times, schedule))
             self.assertEqual(runner.act_counts(), count_acts(system, windows, times, schedule))
 
+    def test_many_arrivals_that_are_decided_anew(self):
+        system = (3, tuple((0, 1 + k % 2, (k, 25, 60 + k, 99), 0, 99) for k in range(19)) + ((1, 2, (3, 40), 0, 50),))
+        messages = [(0, 0, index, attempt) for index, call in enumerate(system[1]) for attempt in range(len(call[2]))]
+        for seed in range(15):
+            chance = random.Random(seed)
+            runner = runner_after(system, (2, 2, 2), [("request", 0)])
+            for message in messages:
+                runner.deliver(message, chance.randint(0, 50))
+            for _ in range(40):
+                coming = runner.coming()
+                self.assertEqual(coming, sorted(coming))
+                event = runner.step()
+                self.assertEqual([event[:3]] if event else [], coming[:1])
+                for message in chance.sample(messages, 4):
+                    try:
+                        if chance.random() < 0.7:
+                            runner.lose(message)
+                        else:
+                            runner.deliver(message, chance.randint(0, 50))
+                    except TooLate:
+                        pass
+            while runner.step():
+                pass
+            self.assertEqual(runner.all_events(), simulate(system, (2, 2, 2), [0], runner.schedule()))
+
     def test_double_acts(self):
         for system in samples.SYSTEMS:
             windows = tuple(max(0, window - 1) for window in least_windows(system))
